@@ -1,0 +1,135 @@
+package dag
+
+import "tranship/api"
+
+// What is known of a pair of terms: whether they are convertible, or that this is just being asked.
+const (
+	open = iota + 1
+	yes
+	no
+)
+
+// Same tells whether two plain terms are convertible (chapter 19), within an allowance of its own. It panics with
+// Spent only if their standard reductions together do not end within that.
+//
+// It goes first the short way, which reduces no more than it has to and tries the parts of two terms before it
+// unfolds them. That may take steps which standard reduction does not take; if they are too many, it goes the long way.
+func (m *Machine) Same(a, b *Node, fuel float64) bool {
+	m.Fuel(fuel)
+	same, ended := m.short(a, b)
+	if ended {
+		return same
+	}
+	m.calm()
+	m.Fuel(fuel)
+	return m.alike(m.Norm(a), m.Norm(b))
+}
+
+// short is the short way, and tells whether it has come to its end.
+func (m *Machine) short(a, b *Node) (same, ended bool) {
+	defer func() {
+		if x := recover(); x != nil {
+			if _, ok := x.(Spent); !ok {
+				panic(x)
+			}
+			same, ended = false, false
+		}
+	}()
+	return m.alike(a, b), true
+}
+
+// calm forgets what was being looked for when a computation was abandoned.
+func (m *Machine) calm() {
+	for _, x := range m.table {
+		for ; x != nil; x = x.next {
+			x.heading, x.norming = false, false
+		}
+	}
+	for key, is := range m.pairs {
+		if is == open {
+			delete(m.pairs, key)
+		}
+	}
+}
+
+func (m *Machine) alike(a, b *Node) bool {
+	if a == b {
+		return true
+	}
+	key := [2]int{min(a.ID, b.ID), max(a.ID, b.ID)}
+	switch m.pairs[key] {
+	case yes:
+		return true
+	case no:
+		return false
+	case open:
+		// Normal forms are finite: where the question comes back within itself, there is none.
+		panic(Spent{Endless: true})
+	}
+	m.pairs[key] = open
+	m.enter()
+	same := m.compare(a, b)
+	m.nested--
+	m.pairs[key] = no
+	if same {
+		m.pairs[key] = yes
+	}
+	return same
+}
+
+func (m *Machine) compare(a, b *Node) bool {
+	if like(a, b) && unsettled(a.Kind) && m.allAlike(a.Kids, b.Kids) {
+		return true
+	}
+	a, b = m.Head(a), m.Head(b)
+	switch {
+	case a == b:
+		return true
+	case a.Kind == api.PLam && b.Kind == api.PLam:
+		return m.alike(a.Kids[1], b.Kids[1])
+	case a.Kind == api.PLam:
+		return m.eta(a, b)
+	case b.Kind == api.PLam:
+		return m.eta(b, a)
+	case a.Kind == api.PPair && b.Kind == api.PPair:
+		return m.allAlike(a.Kids[2:], b.Kids[2:])
+	case a.Kind == api.PPair:
+		return m.surjective(a, b)
+	case b.Kind == api.PPair:
+		return m.surjective(b, a)
+	}
+	return like(a, b) && m.allAlike(a.Kids, b.Kids)
+}
+
+// like tells whether two terms differ in their kids only.
+func like(a, b *Node) bool {
+	return a.Kind == b.Kind && a.I == b.I && a.J == b.J && a.N == b.N && len(a.Kids) == len(b.Kids)
+}
+
+// unsettled tells of a kind whether its terms may make a step.
+func unsettled(kind int) bool {
+	switch kind {
+	case api.PApp, api.PFst, api.PSnd, api.PJ, api.PUse:
+		return true
+	}
+	return false
+}
+
+func (m *Machine) allAlike(a, b []*Node) bool {
+	for i, x := range a {
+		if !m.alike(x, b[i]) {
+			return false
+		}
+	}
+	return true
+}
+
+// eta compares a PLam with what is none.
+func (m *Machine) eta(lam, s *Node) bool {
+	return m.alike(lam.Kids[1], m.Make(api.PApp, m.Lift(s, 1, 0), m.Var(0)))
+}
+
+// surjective compares a PPair with what is neither a PPair nor a PLam.
+func (m *Machine) surjective(pair, s *Node) bool {
+	return m.alike(pair.Kids[2], m.Make(api.PFst, s)) && m.alike(pair.Kids[3], m.Make(api.PSnd, s))
+}
