@@ -52,11 +52,21 @@ func (m *Machine) calm() {
 	}
 }
 
+// alike tells whether the normal forms of two terms are alike.
 func (m *Machine) alike(a, b *Node) bool {
+	return m.ask(a, b, true)
+}
+
+// ask compares two terms; by the rules for a PLam or a PPair on one side only it does so if expand says so.
+func (m *Machine) ask(a, b *Node, expand bool) bool {
 	if a == b {
 		return true
 	}
 	key := [2]int{min(a.ID, b.ID), max(a.ID, b.ID)}
+	if !expand {
+		// The other order keeps the answers to the two questions apart.
+		key = [2]int{key[1], key[0]}
+	}
 	switch m.pairs[key] {
 	case yes:
 		return true
@@ -68,7 +78,7 @@ func (m *Machine) alike(a, b *Node) bool {
 	}
 	m.pairs[key] = open
 	m.enter()
-	same := m.compare(a, b)
+	same := m.compare(a, b, expand)
 	m.nested--
 	m.pairs[key] = no
 	if same {
@@ -77,8 +87,10 @@ func (m *Machine) alike(a, b *Node) bool {
 	return same
 }
 
-func (m *Machine) compare(a, b *Node) bool {
-	if like(a, b) && unsettled(a.Kind) && m.allAlike(a.Kids, b.Kids) {
+func (m *Machine) compare(a, b *Node, expand bool) bool {
+	// What is made in the same way of terms that are equal without these rules is equal. With them this would hold only
+	// for terms that have types.
+	if like(a, b) && unsettled(a.Kind) && m.all(a.Kids, b.Kids, false) {
 		return true
 	}
 	a, b = m.Head(a), m.Head(b)
@@ -86,19 +98,23 @@ func (m *Machine) compare(a, b *Node) bool {
 	case a == b:
 		return true
 	case a.Kind == api.PLam && b.Kind == api.PLam:
-		return m.alike(a.Kids[1], b.Kids[1])
+		return m.ask(a.Kids[1], b.Kids[1], expand)
+	case a.Kind == api.PPair && b.Kind == api.PPair:
+		return m.all(a.Kids[2:], b.Kids[2:], expand)
+	case like(a, b):
+		return m.all(a.Kids, b.Kids, expand)
+	case !expand:
+		return false
 	case a.Kind == api.PLam:
 		return m.eta(a, b)
 	case b.Kind == api.PLam:
 		return m.eta(b, a)
-	case a.Kind == api.PPair && b.Kind == api.PPair:
-		return m.allAlike(a.Kids[2:], b.Kids[2:])
 	case a.Kind == api.PPair:
 		return m.surjective(a, b)
 	case b.Kind == api.PPair:
 		return m.surjective(b, a)
 	}
-	return like(a, b) && m.allAlike(a.Kids, b.Kids)
+	return false
 }
 
 // like tells whether two terms differ in their kids only.
@@ -115,9 +131,9 @@ func unsettled(kind int) bool {
 	return false
 }
 
-func (m *Machine) allAlike(a, b []*Node) bool {
+func (m *Machine) all(a, b []*Node, expand bool) bool {
 	for i, x := range a {
-		if !m.alike(x, b[i]) {
+		if !m.ask(x, b[i], expand) {
 			return false
 		}
 	}
