@@ -5,6 +5,8 @@
 package dag
 
 import (
+	"math"
+
 	"tranship/api"
 	"tranship/budget"
 	"tranship/term"
@@ -26,8 +28,9 @@ type Node struct {
 	norming    bool  // its normal form is being looked for
 }
 
-// Spent is what a machine panics with when its allowance is exhausted, or (Endless) when it finds that it would never end.
-type Spent struct{ Endless bool }
+// Spent is what a machine panics with when its allowance is exhausted, when it finds that it would never end (Endless),
+// or when it has no more room (Full).
+type Spent struct{ Endless, Full bool }
 
 // Limits that keep a machine's recursion from growing beyond the stack.
 const (
@@ -40,6 +43,7 @@ const (
 type Machine struct {
 	table   []*Node
 	count   int
+	room    int
 	symbols map[[3]int]*Symbol
 	pairs   map[[2]int]int
 	fuel    float64
@@ -51,6 +55,7 @@ type Machine struct {
 func New() *Machine {
 	return &Machine{
 		table:   make([]*Node, 1<<8),
+		room:    math.MaxInt,
 		symbols: map[[3]int]*Symbol{},
 		pairs:   map[[2]int]int{},
 		steps:   budget.New(0),
@@ -62,6 +67,11 @@ func (m *Machine) Fuel(f float64) {
 	m.fuel = budget.Least(f, 1e9)
 	m.steps = budget.New(m.fuel)
 	m.nested = 0
+}
+
+// Room sets how many more nodes the machine may make.
+func (m *Machine) Room(n int) {
+	m.room = m.count + n
 }
 
 // step uses one step of the allowance.
@@ -92,7 +102,7 @@ func (m *Machine) Ins(l []api.Term) []*Node {
 // Out returns a node as a term, in new memory. It panics with Spent if that would be more than memory can hold.
 func Out(n *Node) api.Term {
 	if n.size > maxOut {
-		panic(Spent{})
+		panic(Spent{Full: true})
 	}
 	t := api.Term{Kind: n.Kind, I: n.I, J: n.J, N: n.N}
 	if len(n.Kids) > 0 {
@@ -138,11 +148,14 @@ func (m *Machine) node(kind, i, j, n int, kids []*Node) *Node {
 			return x
 		}
 	}
+	if m.count >= m.room {
+		panic(Spent{Full: true})
+	}
 	m.count++
 	x := &Node{Kind: kind, I: i, J: j, N: n, Kids: kids, ID: m.count, hash: h, next: m.table[slot]}
 	x.measure()
 	if x.deep > maxDeep {
-		panic(Spent{})
+		panic(Spent{Full: true})
 	}
 	m.table[slot] = x
 	if m.count > 2*len(m.table) {

@@ -127,6 +127,6 @@ func (m *Machine) Norm(n *Node) *Node {
 func (m *Machine) enter() {
 	m.nested++
 	if m.nested > maxDeep {
-		panic(Spent{})
+		panic(Spent{Full: true})
 	}
 }
