@@ -5,84 +5,52 @@ import (
 	"tranship/lex"
 	"tranship/num"
 	"tranship/read"
+	"tranship/stream"
 	"tranship/write"
 )
 
 // Read: see the document.
 func Read(text string) (r Result, e api.Errno, at int) {
-	p := reader{text: text, end: len(text)}
-	l, fault, end := lex.Lex(text)
-	if fault != api.OK {
-		// What stands before the fault is read first: an error in it comes first in the text.
-		l, _, _ = lex.Lex(text[:end])
-		p.end = end
-	}
-	p.tokens = l
+	p := reader{stream.Of(text), text}
 	defer func() {
-		if recover() != nil {
-			r, e, at = Result{}, api.ErrParse, p.at
+		if x := recover(); x != nil {
+			f, _ := x.(stream.Fault)
+			r, e, at = Result{}, api.ErrParse, f.At
 		}
 	}()
 	r = p.result()
-	if len(p.tokens) > 0 || fault != api.OK {
-		p.fail(p.here())
-	}
+	p.End()
 	return r, api.OK, 0
 }
 
-// reader reads the tokens that are left; it leaves by a panic at the first fault.
+// reader reads results.
 type reader struct {
-	text   string
-	tokens []lex.Token
-	end    int
-	at     int
-}
-
-func (p *reader) fail(at int) {
-	p.at = at
-	panic("no text of a result")
-}
-
-// here is the offset of the next token.
-func (p *reader) here() int {
-	if len(p.tokens) == 0 {
-		return p.end
-	}
-	return p.tokens[0].At
-}
-
-// take takes the next token, which has to be of a kind.
-func (p *reader) take(kind int) lex.Token {
-	if len(p.tokens) == 0 || p.tokens[0].Kind != kind {
-		p.fail(p.here())
-	}
-	t := p.tokens[0]
-	p.tokens = p.tokens[1:]
-	return t
+	*stream.Stream
+	text string
 }
 
 func (p *reader) level() int {
-	t := p.take(lex.Num)
+	t := p.Take(lex.Num)
 	n, _ := num.Get(t.Text)
 	if n > api.MaxLevel {
-		p.fail(t.At)
+		stream.Fail(t.At)
 	}
 	return n
 }
 
 func (p *reader) result() Result {
-	p.take(lex.Open)
-	head := p.take(lex.Word)
+	p.Take(lex.Open)
+	head := p.Take(lex.Word)
 	r := Result{Equal: head.Text == "equal"}
 	if !r.Equal && head.Text != "term" {
-		p.fail(head.At)
+		stream.Fail(head.At)
 	}
-	p.take(lex.Open)
-	for len(p.tokens) == 0 || p.tokens[0].Kind != lex.Close {
+	p.Take(lex.Open)
+	for !p.Next(lex.Close) {
 		i := p.level()
 		r.Ctx = append(r.Ctx, api.Entry{A: p.term(len(r.Ctx), false), I: i})
 	}
-	p.take(lex.Close)
+	p.Take(lex.Close)
 	n := len(r.Ctx)
 	r.I = p.level()
 	if r.Equal {
@@ -91,19 +59,19 @@ func (p *reader) result() Result {
 	} else {
 		r.U, r.A = p.term(n, false), p.term(n, false)
 	}
-	p.take(lex.Close)
+	p.Take(lex.Close)
 	return r
 }
 
 // term reads a marked or a plain term in a context of n entries.
 func (p *reader) term(n int, plain bool) api.Term {
-	from := p.here()
-	if len(p.tokens) > 1 && p.tokens[0].Kind == lex.Open && other(p.tokens[1].Text, plain) {
-		p.fail(p.tokens[1].At)
+	from := p.Here()
+	if l := p.Ahead(); len(l) > 1 && l[0].Kind == lex.Open && other(l[1].Text, plain) {
+		stream.Fail(l[1].At)
 	}
 	t, e, at := read.Read(p.text[from:p.extent()], write.Names(n), 0, 0)
 	if e != api.OK {
-		p.fail(from + at)
+		stream.Fail(from + at)
 	}
 	return t
 }
@@ -111,7 +79,7 @@ func (p *reader) term(n int, plain bool) api.Term {
 // extent takes the tokens of a term, and returns where it ends: with the text, if its list is never closed.
 func (p *reader) extent() int {
 	open := 0
-	for k, t := range p.tokens {
+	for k, t := range p.Ahead() {
 		switch t.Kind {
 		case lex.Open:
 			open++
@@ -119,7 +87,7 @@ func (p *reader) extent() int {
 			open--
 		}
 		if open <= 0 {
-			p.tokens = p.tokens[k+1:]
+			p.Skip(k + 1)
 			return t.At + len(t.Text)
 		}
 	}
