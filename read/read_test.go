@@ -108,6 +108,31 @@ func TestLevelsGiven(t *testing.T) {
 	}
 }
 
+func TestManyNames(t *testing.T) {
+	names := append(strings.Fields(strings.Repeat("p q r s ", 50)), "a", "last")
+	text := "a"
+	for range 30 {
+		text = "(App (Lam r q (App s r)) (App q " + text + "))"
+	}
+	x, e, at := Read(text, names, 0, 0)
+	if e != api.OK {
+		t.Fatal(e, at)
+	}
+	for range 30 {
+		f := x.Kids[0]
+		if f.Kids[0].I != 4 || f.Kids[1].Kids[0].I != 3 || f.Kids[1].Kids[1].I != 0 || x.Kids[1].Kids[0].I != 4 {
+			t.Fatal(x)
+		}
+		x = x.Kids[1].Kids[1]
+	}
+	if x.I != 1 {
+		t.Error(x)
+	}
+	if _, e, at := Read(strings.Replace(text, "a))", "z))", 1), names, 0, 0); e != api.ErrParse || text[at] != 'a' {
+		t.Error(e, at)
+	}
+}
+
 func TestDeepText(t *testing.T) {
 	n := 1 << 16
 	text := strings.Repeat("(Fst ", n) + "a" + strings.Repeat(")", n)

@@ -11,7 +11,7 @@ import (
 
 // Read: see the document.
 func Read(text string) (r Result, e api.Errno, at int) {
-	p := reader{stream.Of(text), text}
+	p := reader{Stream: stream.Of(text), text: text}
 	defer func() {
 		if x := recover(); x != nil {
 			f, _ := x.(stream.Fault)
@@ -26,7 +26,19 @@ func Read(text string) (r Result, e api.Errno, at int) {
 // reader reads results.
 type reader struct {
 	*stream.Stream
-	text string
+	text  string
+	names []string
+}
+
+// named are the names of a context of n entries.
+func (p *reader) named(n int) []string {
+	if n > api.MaxNum {
+		return nil
+	}
+	if n > len(p.names) {
+		p.names = write.Names(min(2*n, api.MaxNum))
+	}
+	return p.names[:n]
 }
 
 func (p *reader) level() int {
@@ -69,7 +81,7 @@ func (p *reader) term(n int, plain bool) api.Term {
 	if l := p.Ahead(); len(l) > 1 && l[0].Kind == lex.Open && other(l[1].Text, plain) {
 		stream.Fail(l[1].At)
 	}
-	t, e, at := read.Read(p.text[from:p.extent()], write.Names(n), 0, 0)
+	t, e, at := read.Read(p.text[from:p.extent()], p.named(n), 0, 0)
 	if e != api.OK {
 		stream.Fail(from + at)
 	}
