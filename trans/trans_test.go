@@ -457,3 +457,32 @@ func TestLimits(t *testing.T) {
 		}
 	}
 }
+
+// TestHighLevels has the greatest sorts that a derivation may have.
+func TestHighLevels(t *testing.T) {
+	for _, d := range []string{
+		"(conv (var 0) (reflect (var 1)))", "(refl (conv (var 0) (reflect (var 1))))", "(eq (conv (var 0) (reflect (var 1))) (conv (var 0) (reflect (var 1))))", "(xpi (reflect (var 1)) (same (sort 900)))",
+		"(xlam (reflect (var 1)) (same (sort 900)) (same (var 4)))", "(repl (reflect (var 1)) (refl (var 0)))", "(irr (refl (refl (sort 900))) (refl (refl (sort 900))))",
+		"(xsig (reflect (var 1)) (same (pi (var 4) (sort 900))))", "(lam (sort 900) (eq (eq (var 0) (var 0)) (eq (var 0) (var 0))))", "(xpair (reflect (var 1)) (same (eq (var 0) (var 0))) (var 0) (refl (var 0)))",
+	} {
+		f := file(t, "(file ((sort 900) (sort 900) (eq (var 1) (var 0)) (var 2)) "+d+")")
+		c, e, path := Ctx(f.Ctx, inf)
+		if e != api.OK {
+			t.Fatal(e, path)
+		}
+		good(t, c, f.D)
+		c[0] = api.Entry{A: sort(949), I: 950}
+		c = ctx.Add(c[:1], variable(0), 949)
+		c = ctx.Add(c, variable(1), 949)
+		c = ctx.Add(c, api.Term{Kind: api.Eq, I: 949, Kids: []api.Term{variable(2), variable(1), variable(0)}}, 949)
+		if mark.Ctx(c, 100) != api.OK {
+			t.Fatal("context")
+		}
+		for _, d := range []string{"(repl (reflect (var 0)) (refl (var 0)))", "(convs (reflect (var 0)) (same (var 3)))", "(irr (var 0) (conv (var 0) (repl (sym (reflect (var 0))) (eq (var 3) (var 2)))))", "(eta (lam (var 3) (eq (var 0) (var 2))))"} {
+			d := file(t, "(file () "+d+")").D
+			if _, e, _ := check.Judge(c, d, inf); e == api.OK {
+				good(t, c, d)
+			}
+		}
+	}
+}
