@@ -5,8 +5,6 @@
 package dag
 
 import (
-	"math"
-
 	"tranship/api"
 	"tranship/budget"
 	"tranship/term"
@@ -32,11 +30,13 @@ type Node struct {
 // or when it has no more room (Full).
 type Spent struct{ Endless, Full bool }
 
-// Limits that keep a machine's recursion from growing beyond the stack.
+// Limits that keep a machine within the stack and the memory.
 const (
 	maxDeep = 1 << 20
 	maxSize = 1 << 40
 	maxOut  = 1 << 26
+	// More nodes than these take more bytes than the document's bound has.
+	maxNodes = 40_000_000
 )
 
 // Machine makes nodes and computes with them.
@@ -55,7 +55,7 @@ type Machine struct {
 func New() *Machine {
 	return &Machine{
 		table:   make([]*Node, 1<<8),
-		room:    math.MaxInt,
+		room:    maxNodes,
 		symbols: map[[3]int]*Symbol{},
 		pairs:   map[[2]int]int{},
 		steps:   budget.New(0),
@@ -71,7 +71,7 @@ func (m *Machine) Fuel(f float64) {
 
 // Room sets how many more nodes the machine may make.
 func (m *Machine) Room(n int) {
-	m.room = m.count + n
+	m.room = min(m.count+n, maxNodes)
 }
 
 // step uses one step of the allowance.
