@@ -6,13 +6,21 @@ import (
 
 	"tranship/api"
 	"tranship/naive"
+	"tranship/norm"
 	"tranship/read"
 	"tranship/term"
 )
 
-var inf = math.Inf(1)
+var inf, nan = math.Inf(1), math.NaN()
 
 const omega = "(App (Lam x a (App x x)) (Lam x a (App x x)))"
+
+// Terms without a normal form, which become greater with each round of steps.
+const (
+	growing = "(App (App (Lam x a (Lam y a (App (App x x) (Fst y)))) (Lam x a (Lam y a (App (App x x) (Fst y))))) b)"
+	opening = "(App (Lam x a (Pair y a a b (App x x))) (Lam x a (Pair y a a b (App x x))))"
+	longer  = "(App (App (Lam x a (Lam n a (Pair y a a n (App (App x x) (App b n))))) (Lam x a (Lam n a (Pair y a a n (App (App x x) (App b n)))))) c)"
+)
 
 func p(t *testing.T, text string) api.Term {
 	x, e, at := read.Read(text, []string{"a", "b", "c"}, 0, 0)
@@ -70,7 +78,7 @@ func TestSame(t *testing.T) {
 				t.Error("turned", c, fuel, got, e)
 			}
 		}
-		for _, fuel := range []float64{0, math.NaN(), -1, -inf} {
+		for _, fuel := range []float64{0, nan, -1, -inf} {
 			if got, e := Same(p(t, c.a), p(t, c.b), fuel); e == api.OK && got != c.want || e != api.OK && (e != api.ErrFuel || got) {
 				t.Error("less", c, fuel, got, e)
 			}
@@ -102,9 +110,85 @@ func TestWithoutNormalForm(t *testing.T) {
 			}
 		}
 	}
-	for _, fuel := range []float64{0, 1000, inf} {
-		if got, e := Same(p(t, omega), p(t, omega), fuel); e == api.OK && !got || e != api.OK && e != api.ErrFuel {
+	for _, text := range []string{omega, growing, opening, longer} {
+		for _, fuel := range []float64{0, 1000, inf} {
+			if got, e := Same(p(t, text), p(t, text), fuel); e == api.OK && !got || e != api.OK && e != api.ErrFuel {
+				t.Error(text, fuel, got, e)
+			}
+		}
+	}
+}
+
+// TestPartsWithoutNormalForm has terms of which some steps show, or seem to show, whether they are convertible.
+func TestPartsWithoutNormalForm(t *testing.T) {
+	const step = "(App (Lam x a x) b)"
+	for _, end := range []string{omega, growing, opening, longer} {
+		for _, c := range [][2]string{
+			{"(Pair x a a " + step + " " + end + ")", "(Pair x a a b " + end + ")"},
+			{"(Pair x a a " + step + " " + end + ")", "(Pair x a a c " + end + ")"},
+			{"(Pair x " + end + " a b c)", "(Pair x " + end + " a c c)"},
+			{"(Pair x " + end + " a b c)", "(Pair x a a b c)"},
+			{"(Lam x " + end + " x)", "(Lam x a x)"},
+			{"(Lam x a (App " + end + " x))", end},
+			{"(App " + end + " " + step + ")", "(App " + end + " b)"},
+			{"(Eq a " + step + " " + end + ")", "(Eq a b " + end + ")"},
+			{"(use uip 0 0 a a a " + step + " " + end + ")", "(use uip 0 0 a a a b " + end + ")"},
+			{"(use het 0 0 a a b " + end + ")", "(use het 0 0 a a " + step + " " + end + ")"},
+			{"(J a b y e y c b " + end + ")", "(J a b y e y c " + step + " " + end + ")"},
+			{"(Refl a " + end + ")", "(Refl b " + end + ")"},
+			{end, "(sort 0)"},
+		} {
+			for _, fuel := range []float64{nan, -1, 0, 3, 100, 1000} {
+				for _, d := range [][2]string{c, {c[1], c[0]}} {
+					if got, e := Same(p(t, d[0]), p(t, d[1]), fuel); e != api.ErrFuel || got {
+						t.Error(d, fuel, got, e)
+					}
+				}
+			}
+		}
+	}
+	a, b := p(t, "(Pair x a a "+step+" "+growing+")"), p(t, "(Pair x a a b "+growing+")")
+	for _, fuel := range []float64{2e4, 1e5} {
+		if got, e := Same(a, b, fuel); e != api.ErrFuel || got {
 			t.Error(fuel, got, e)
+		}
+	}
+}
+
+// TestTurned has pairs of terms of which one ends, or finds its end, later than the other one.
+func TestTurned(t *testing.T) {
+	far, farther := "b", "b"
+	for range 100 {
+		far = "(App (Lam x a x) " + far + ")"
+	}
+	for range 1000 {
+		farther = "(App (Lam x a x) " + farther + ")"
+	}
+	texts := []string{omega, growing, opening, longer, far, farther, "b"}
+	for _, x := range texts {
+		for _, y := range texts {
+			for _, c := range [][2]string{{x, y}, {"(Pair x a a b " + x + ")", "(Pair x a a c " + y + ")"}, {"(Pair x a a " + x + " b)", "(Pair x a a " + y + " b)"}} {
+				a, b := p(t, c[0]), p(t, c[1])
+				for _, fuel := range []float64{nan, 0, 10, 99, 100, 101, 1099, 1100, 1200, 2e4} {
+					got, e := Same(a, b, fuel)
+					back, f := Same(b, a, fuel)
+					if got != back || e != f {
+						t.Error(c, fuel, got, e, back, f)
+					}
+				}
+			}
+		}
+	}
+}
+
+// TestOrder has the order of terms by which it is chosen which one is reduced first.
+func TestOrder(t *testing.T) {
+	r := naive.Random{Seed: 33}
+	for range 2000 {
+		a := r.Plain(4, 3)
+		b := vary(&r, a, 3)
+		if order(a, b) != -order(b, a) || (order(a, b) == 0) != term.Same(a, b) {
+			t.Fatal(order(a, b), order(b, a), a, b)
 		}
 	}
 }
@@ -112,7 +196,7 @@ func TestWithoutNormalForm(t *testing.T) {
 func TestArguments(t *testing.T) {
 	sort := api.Term{Kind: api.Sort}
 	for i, x := range []api.Term{{}, {Kind: api.PApp}, {Kind: api.Refl, Kids: []api.Term{sort, sort}}, {Kind: api.Sort, I: -1}} {
-		for _, fuel := range []float64{0, inf, math.NaN()} {
+		for _, fuel := range []float64{0, inf, nan} {
 			if got, e := Same(x, sort, fuel); got || e != api.ErrArg {
 				t.Error(i, got, e)
 			}
@@ -181,4 +265,45 @@ func TestAgainstTrees(t *testing.T) {
 	if count[true] < 500 || count[false] < 500 {
 		t.Error(count)
 	}
+}
+
+// TestAgainstNormalForms has terms of which many have no normal form.
+func TestAgainstNormalForms(t *testing.T) {
+	r := naive.Random{Seed: 34}
+	ends := []api.Term{p(t, omega), p(t, growing), p(t, opening), p(t, longer)}
+	count := map[api.Errno]int{}
+	for range 1500 {
+		a := put(&r, r.Plain(5, 3), ends[r.Below(4)])
+		b := vary(&r, a, 3)
+		for _, fuel := range []float64{0, 7, 60, 500} {
+			got, e := Same(a, b, fuel)
+			if back, f := Same(b, a, fuel); got != back || e != f {
+				t.Fatal("turned", fuel, got, e, back, f, a, b)
+			}
+			if term.Same(a, b) {
+				continue
+			}
+			count[e]++
+			x, f := norm.Norm(a, fuel)
+			y, g := norm.Norm(b, fuel)
+			if e == api.OK && (f != api.OK || g != api.OK || got != naive.Alike(x, y)) || got && e != api.OK {
+				t.Fatal(fuel, got, e, f, g, a, b)
+			}
+		}
+	}
+	if count[api.OK] < 500 || count[api.ErrFuel] < 500 {
+		t.Error(count)
+	}
+}
+
+// put puts x somewhere into a term, in the place of a closed part or of a variable.
+func put(r *naive.Random, t, x api.Term) api.Term {
+	if len(t.Kids) == 0 {
+		return x
+	}
+	kids := append([]api.Term(nil), t.Kids...)
+	i := r.Below(len(kids))
+	kids[i] = put(r, kids[i], x)
+	t.Kids = kids
+	return t
 }

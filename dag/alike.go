@@ -9,23 +9,46 @@ const (
 	no
 )
 
-// Same tells whether two plain terms are convertible (chapter 19), within an allowance of its own. It panics with
-// Spent only if their standard reductions together do not end within that.
-//
-// It goes first the short way, which reduces no more than it has to and tries the parts of two terms before it
-// unfolds them. That may take steps which standard reduction does not take; if they are too many, it goes the long way.
-func (m *Machine) Same(a, b *Node, fuel float64) bool {
-	m.Fuel(fuel)
-	same, ended := m.short(a, b)
-	if ended {
-		return same
+// Trust has the machine ask, when it first needs to know, whether the terms that it compares have types, and therefore
+// normal forms. Without that they may be any terms.
+func (m *Machine) Trust(typed func() bool) {
+	m.typed = typed
+}
+
+// trusted tells what has been answered.
+func (m *Machine) trusted() bool {
+	if m.typed == nil {
+		return false
 	}
-	m.calm()
+	is := m.typed()
+	m.typed = func() bool { return is }
+	return is
+}
+
+// Same tells whether two plain terms are convertible (chapter 19), within an allowance of its own. It panics with
+// Spent only if their standard reductions together do not end within that; if they do not end at all, it does so
+// always, since what steps show of terms without normal forms is no answer. Only that a term is convertible with
+// itself is known without a step.
+//
+// Terms that are known to have normal forms are compared the short way first. That may take steps which standard
+// reduction does not take; if they are too many, the long way is left.
+func (m *Machine) Same(a, b *Node, fuel float64) bool {
+	if a == b {
+		return true
+	}
+	if m.trusted() {
+		m.Fuel(fuel)
+		if same, ended := m.short(a, b); ended {
+			return same
+		}
+		m.calm()
+	}
 	m.Fuel(fuel)
 	return m.alike(m.Norm(a), m.Norm(b))
 }
 
-// short is the short way, and tells whether it has come to its end.
+// short is the short way, which reduces no more than it has to and tries the parts of two terms before it unfolds
+// them. It tells whether it has come to its end.
 func (m *Machine) short(a, b *Node) (same, ended bool) {
 	defer func() {
 		if x := recover(); x != nil {
@@ -74,7 +97,7 @@ func (m *Machine) ask(a, b *Node, expand bool) bool {
 		return false
 	case open:
 		// Normal forms are finite: where the question comes back within itself, there is none.
-		panic(Spent{Endless: true})
+		panic(Spent{})
 	}
 	m.pairs[key] = open
 	m.enter()

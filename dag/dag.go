@@ -26,9 +26,9 @@ type Node struct {
 	norming    bool  // its normal form is being looked for
 }
 
-// Spent is what a machine panics with when its allowance is exhausted, when it finds that it would never end (Endless),
-// or when it has no more room (Full).
-type Spent struct{ Endless, Full bool }
+// Spent is what a machine panics with when its allowance is exhausted, when it finds that it would never end, or when
+// it has no more room.
+type Spent struct{}
 
 // Limits that keep a machine within the stack and the memory.
 const (
@@ -49,6 +49,7 @@ type Machine struct {
 	fuel    float64
 	steps   *budget.Budget
 	nested  int
+	typed   func() bool // see Trust
 }
 
 // New returns a machine whose computations may use no steps, until Fuel says otherwise.
@@ -67,11 +68,6 @@ func (m *Machine) Fuel(f float64) {
 	m.fuel = budget.Least(f, 1e9)
 	m.steps = budget.New(m.fuel)
 	m.nested = 0
-}
-
-// Room sets how many more nodes the machine may make.
-func (m *Machine) Room(n int) {
-	m.room = min(m.count+n, maxNodes)
 }
 
 // step uses one step of the allowance.
@@ -102,7 +98,7 @@ func (m *Machine) Ins(l []api.Term) []*Node {
 // Out returns a node as a term, in new memory. It panics with Spent if that would be more than memory can hold.
 func Out(n *Node) api.Term {
 	if n.size > maxOut {
-		panic(Spent{Full: true})
+		panic(Spent{})
 	}
 	t := api.Term{Kind: n.Kind, I: n.I, J: n.J, N: n.N}
 	if len(n.Kids) > 0 {
@@ -149,13 +145,13 @@ func (m *Machine) node(kind, i, j, n int, kids []*Node) *Node {
 		}
 	}
 	if m.count >= m.room {
-		panic(Spent{Full: true})
+		panic(Spent{})
 	}
 	m.count++
 	x := &Node{Kind: kind, I: i, J: j, N: n, Kids: kids, ID: m.count, hash: h, next: m.table[slot]}
 	x.measure()
 	if x.deep > maxDeep {
-		panic(Spent{Full: true})
+		panic(Spent{})
 	}
 	m.table[slot] = x
 	if m.count > 2*len(m.table) {

@@ -19,7 +19,7 @@ func (m *Machine) Head(n *Node) *Node {
 			if next, moved := m.into(n); next != nil {
 				// Head reduction has no choices: a term that needs its own head has none.
 				if n.heading {
-					panic(Spent{Endless: true})
+					panic(Spent{})
 				}
 				n.heading = true
 				waiting = append(waiting, frame{n, moved})
@@ -107,7 +107,7 @@ func (m *Machine) Norm(n *Node) *Node {
 	}
 	// A term that is a part of its own normal form has none.
 	if n.norming {
-		panic(Spent{Endless: true})
+		panic(Spent{})
 	}
 	n.norming = true
 	m.enter()
@@ -127,6 +127,6 @@ func (m *Machine) Norm(n *Node) *Node {
 func (m *Machine) enter() {
 	m.nested++
 	if m.nested > maxDeep {
-		panic(Spent{Full: true})
+		panic(Spent{})
 	}
 }
