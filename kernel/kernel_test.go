@@ -220,6 +220,49 @@ func TestCtx(t *testing.T) {
 	}
 }
 
+// growing is a term without a normal form, which becomes greater with each round of steps.
+const growing = "(App (App (Lam x (sort 0) (Lam y (sort 0) (App (App x x) (Fst y)))) (Lam x (sort 0) (Lam y (sort 0) (App (App x x) (Fst y))))) (sort 0))"
+
+// TestWrongContexts has contexts that Ctx does not accept: what is compared there are any terms, whether they have
+// normal forms or not.
+func TestWrongContexts(t *testing.T) {
+	const step = "(App (Lam x (sort 0) x) (sort 1))"
+	for _, r := range []struct {
+		a, b string
+		want api.Errno
+	}{
+		{"(Pair x A A " + step + " (sort 0))", "(Pair x A A (sort 1) (sort 0))", api.OK},
+		{"(Pair x A A " + step + " (sort 0))", "(Pair x A A (sort 2) (sort 0))", api.ErrType},
+		{"(Fst (Pair x A A " + step + " " + growing + "))", "(sort 1)", api.OK},
+		{"(Fst (Pair x A A " + step + " " + growing + "))", "A", api.ErrType},
+		{growing, growing, api.OK},
+		{"(Pair x A A " + step + " " + growing + ")", "(Pair x A A (sort 1) " + growing + ")", api.ErrFuel},
+		{"(Pair x A A " + step + " " + growing + ")", "(Pair x A A (sort 2) " + growing + ")", api.ErrFuel},
+		{"(Pair x A A " + omega + " A)", "(Pair x A A A A)", api.ErrFuel},
+		{"(Lam x " + omega + " x)", "(Lam x A x)", api.ErrFuel},
+		{"A", "(Refl " + growing + " A)", api.ErrFuel},
+	} {
+		for _, x := range [][2]string{{r.a, r.b}, {r.b, r.a}} {
+			// f takes what has the type x[0]; a has the type x[1].
+			c := []api.Term{p(t, "(sort 0)", 0), p(t, "(Pi x "+x[0]+" A)", 1), lift.Lift(p(t, x[1], 1), 1, 0)}
+			f, a := api.Term{Kind: api.Var, I: 1}, api.Term{Kind: api.Var}
+			call := api.Term{Kind: api.PApp, Kids: []api.Term{f, a}}
+			for _, fuel := range []float64{100, 1e4} {
+				is, e := Infer(c, call, fuel)
+				if e != r.want || (e == api.OK) != term.Same(is, api.Term{Kind: api.Var, I: 2}) {
+					t.Error(x, fuel, is, e)
+				}
+				if e := Check(c, call, api.Term{Kind: api.Var, I: 2}, fuel); e != r.want {
+					t.Error("Check", x, fuel, e)
+				}
+				if e := Ctx(c, fuel); e != api.ErrType {
+					t.Error("Ctx", x, fuel, e)
+				}
+			}
+		}
+	}
+}
+
 func TestArguments(t *testing.T) {
 	sort, v := api.Term{Kind: api.Sort}, api.Term{Kind: api.Var}
 	refl := api.Term{Kind: api.Refl, Kids: []api.Term{sort, sort}}

@@ -9,6 +9,7 @@ import (
 	"tranship/conv"
 	"tranship/ctx"
 	"tranship/kernel"
+	"tranship/lift"
 	"tranship/read"
 	"tranship/strip"
 	"tranship/term"
@@ -208,6 +209,41 @@ func TestCtx(t *testing.T) {
 	}
 	if e := Ctx(nil, nan); e != api.OK {
 		t.Error(e)
+	}
+}
+
+// TestWrongContexts has contexts that Ctx does not accept: what is compared there are any terms, whether they have
+// normal forms or not.
+func TestWrongContexts(t *testing.T) {
+	const (
+		half    = "(lam 0 0 x A A (lam 0 0 y A A (app 0 0 z A A (app 0 0 z A A x x) (fst 0 0 z A A y))))"
+		growing = "(app 0 0 z A A (app 0 0 z A A " + half + " " + half + ") a)"
+		id      = "(lam 0 0 x A A x)"
+		is      = "(eq 0 (pi 0 0 x A A) " + id + " " + id + ")"
+	)
+	for text, want := range map[string]api.Errno{
+		is: api.OK,
+		"(eq 0 (pi 0 0 x A A) (lam 0 0 x F A x) " + id + ")":               api.OK,
+		"(eq 0 (pi 0 0 x A F) " + id + " " + id + ")":                      api.ErrType,
+		"(fst 0 0 x A A (pair 0 0 x A A A " + growing + "))":               api.ErrType,
+		"(eq 0 (pi 0 0 x A A) (lam 0 0 x " + growing + " A x) " + id + ")": api.ErrFuel,
+		"(refl 0 " + growing + " a)":                                       api.ErrFuel,
+		"(pair 0 0 x A A a " + growing + ")":                               api.ErrFuel,
+	} {
+		c := append(sample(t), api.Entry{A: m(t, text, 8)})
+		y := api.Term{Kind: api.Var}
+		a := lift.Lift(m(t, is, 8), 1, 0)
+		p := api.Term{Kind: api.PRefl, Kids: []api.Term{{Kind: api.Sort}, strip.Strip(a)}}
+		for _, fuel := range []float64{100, 1e4} {
+			for _, x := range []api.Term{{Kind: api.Refl, Kids: []api.Term{a, y}}, {Kind: api.Tr, Kids: []api.Term{a, a, p, y}}} {
+				if _, _, e := Type(c, x, fuel); e != want {
+					t.Error(text, fuel, x.Kind, e)
+				}
+			}
+		}
+		if e := Ctx(c, 100); text != is && e != api.ErrType {
+			t.Error("Ctx", text, e)
+		}
 	}
 }
 

@@ -127,6 +127,17 @@ func TestVerify(t *testing.T) {
 			}
 		}
 	}
+	const half = "(lam 0 0 x (sort 0) (sort 0) (lam 0 0 y (sort 0) (sort 0) (app 0 0 z (sort 0) (sort 0) (app 0 0 z (sort 0) (sort 0) x x) (fst 0 0 z (sort 0) (sort 0) y))))"
+	const growing = "(app 0 0 z (sort 0) (sort 0) (app 0 0 z (sort 0) (sort 0) " + half + " " + half + ") (sort 0))"
+	for _, a := range []string{growing, "(pair 0 0 x (sort 0) (sort 0) (sort 0) " + growing + ")"} {
+		r, e, at := Read("(term () 2 (sort 0) " + a + ")")
+		if e != api.OK {
+			t.Fatal(at)
+		}
+		if e := Verify(r, 1e4); e != api.ErrFuel {
+			t.Error("a type without a normal form", a, e)
+		}
+	}
 	needs := "(term (1 (sort 0) 0 v0) 0 (refl 0 (app 1 1 x (sort 0) (sort 0) (lam 1 1 x (sort 0) (sort 0) x) v0) v1) (eq 0 v0 v1 v1))"
 	r, _, _ := Read(needs)
 	if Verify(r, 0) != api.ErrFuel || Verify(r, 4) != api.OK {

@@ -2,8 +2,8 @@ package result
 
 import (
 	"tranship/api"
+	"tranship/conv"
 	"tranship/ctx"
-	"tranship/dag"
 	"tranship/kernel"
 	"tranship/mark"
 	"tranship/strip"
@@ -54,17 +54,11 @@ func has(c []api.Entry, t, a api.Term, i int, fuel float64) api.Errno {
 	return alike(strip.Strip(is), strip.Strip(a), fuel)
 }
 
-// alike compares two types as the layers below do when they check terms. It does without the care of conv.Same for
-// terms without a normal form, which may cost much: the type of a term that has been checked has one.
-func alike(a, b api.Term, fuel float64) (e api.Errno) {
-	defer func() {
-		if recover() != nil {
-			e = api.ErrFuel
-		}
-	}()
-	m := dag.New()
-	if !m.Same(m.In(a), m.In(b), fuel) {
+// alike compares two types.
+func alike(a, b api.Term, fuel float64) api.Errno {
+	same, e := conv.Same(a, b, fuel)
+	if e == api.OK && !same {
 		return api.ErrType
 	}
-	return api.OK
+	return e
 }
